@@ -1,0 +1,145 @@
+// Package shardcommit: transactions over shards, committed everywhere or nowhere, each node with a log of its own: see DOC.md.
+package shardcommit
+
+import (
+	"shardcommit/api"
+	"shardcommit/wire"
+)
+
+// EncodeRecord writes a record (P3).
+func EncodeRecord(r api.Record) ([]byte, error) { return wire.EncodeRecord(r) }
+
+// Scan reads records (P4).
+func Scan(b []byte) ([]api.Record, int) { return wire.Scan(b) }
+
+// EncodeMessage writes a message (P5).
+func EncodeMessage(m api.Message) ([]byte, error) { return wire.EncodeMessage(m) }
+
+// DecodeMessage reads a message (P5).
+func DecodeMessage(b []byte) (api.Message, error) { return wire.DecodeMessage(b) }
+
+// Log is records on a disk.
+type Log struct{}
+
+// OpenLog opens the log of a disk (P6, P10).
+func OpenLog(d api.Disk) (*Log, error) { return nil, nil }
+
+// Append: a record more (P7).
+func (l *Log) Append(kind uint8, payload string) (uint64, error) { return 0, nil }
+
+// Force: all is durable (P8).
+func (l *Log) Force() error { return nil }
+
+// Cut: what lies below is no longer needed (P9).
+func (l *Log) Cut(low uint64) error { return nil }
+
+// Next: the number of the next record (P7).
+func (l *Log) Next() uint64 { return 0 }
+
+// All walks through the records (P7).
+func (l *Log) All() func(yield func(api.Record) bool) { return nil }
+
+// Shard is keys and values, and transactions that work on them.
+type Shard struct{}
+
+// OpenShard opens the shard of a disk (P12, P20).
+func OpenShard(d api.Disk) (*Shard, error) { return nil, nil }
+
+// Get: a value (P13, P14).
+func (s *Shard) Get(txn uint64, seq int, key string) (string, bool, error) { return "", false, nil }
+
+// Put: a value is to be this (P13, P14).
+func (s *Shard) Put(txn uint64, seq int, key string, value string) error { return nil }
+
+// Delete: a key is to have no value (P13, P14).
+func (s *Shard) Delete(txn uint64, seq int, key string) error { return nil }
+
+// Prepare: the vote (P15).
+func (s *Shard) Prepare(txn uint64) (int, error) { return 0, nil }
+
+// Commit: it counts (P16).
+func (s *Shard) Commit(txn uint64) error { return nil }
+
+// Abort: it does not (P17).
+func (s *Shard) Abort(txn uint64) error { return nil }
+
+// Tick: work that nobody goes on with is dropped (P18).
+func (s *Shard) Tick() {}
+
+// State: of a transaction (P13).
+func (s *Shard) State(txn uint64) int { return 0 }
+
+// Waiting: transactions that are prepared (P19).
+func (s *Shard) Waiting() []uint64 { return nil }
+
+// Value: what is committed of a key (P19).
+func (s *Shard) Value(key string) (string, bool) { return "", false }
+
+// All walks through what is committed (P19).
+func (s *Shard) All() func(yield func(key string, value string) bool) { return nil }
+
+// Checkpoint writes anew what is durable (P22).
+func (s *Shard) Checkpoint() error { return nil }
+
+// Coordinator is transactions that are decided.
+type Coordinator struct{}
+
+// OpenCoordinator opens the coordinator of a disk (P23, P31).
+func OpenCoordinator(d api.Disk) (*Coordinator, error) { return nil, nil }
+
+// Begin: a transaction more (P24).
+func (c *Coordinator) Begin() (uint64, error) { return 0, nil }
+
+// Commit: votes are asked for (P25).
+func (c *Coordinator) Commit(txn uint64, shards []int) error { return nil }
+
+// Abort: it is aborted (P26).
+func (c *Coordinator) Abort(txn uint64) error { return nil }
+
+// Vote: of a shard (P27).
+func (c *Coordinator) Vote(txn uint64, shard int, vote int) error { return nil }
+
+// Done: a shard says that it is done (P28).
+func (c *Coordinator) Done(txn uint64, shard int) error { return nil }
+
+// Answer: what a shard is told that asks (P29).
+func (c *Coordinator) Answer(txn uint64) int { return 0 }
+
+// Tick: votes that do not come; what is to be sent again (P30).
+func (c *Coordinator) Tick() {}
+
+// Status: of a transaction (P24).
+func (c *Coordinator) Status(txn uint64) int { return 0 }
+
+// Results: what became of transactions, since the last call (P30).
+func (c *Coordinator) Results() []api.Result { return nil }
+
+// Out: what is to be sent, since the last call (P30).
+func (c *Coordinator) Out() []api.Due { return nil }
+
+// Checkpoint writes anew what is durable (P32).
+func (c *Coordinator) Checkpoint() error { return nil }
+
+// Node is the coordinator or a shard, and its messages.
+type Node struct{}
+
+// OpenNode opens a node: 0 the coordinator, 1 to 8 a shard (P33).
+func OpenNode(d api.Disk, id int) (*Node, error) { return nil, nil }
+
+// Coordinator: of node 0; else nil (P33).
+func (n *Node) Coordinator() *Coordinator { return nil }
+
+// Shard: of a node that is one; else nil (P33).
+func (n *Node) Shard() *Shard { return nil }
+
+// Receive: a message came (P34).
+func (n *Node) Receive(b []byte) error { return nil }
+
+// Tick: a tick has passed (P35).
+func (n *Node) Tick() {}
+
+// Send: messages that are to be sent now (P35).
+func (n *Node) Send() [][]byte { return nil }
+
+// Restart opens many nodes at the same time: of each disk the node of that place (P37).
+func Restart(disks []api.Disk) ([]*Node, []error) { return nil, nil }
