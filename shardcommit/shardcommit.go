@@ -3,6 +3,7 @@ package shardcommit
 
 import (
 	"shardcommit/api"
+	"shardcommit/journal"
 	"shardcommit/wire"
 )
 
@@ -18,26 +19,11 @@ func EncodeMessage(m api.Message) ([]byte, error) { return wire.EncodeMessage(m)
 // DecodeMessage reads a message (P5).
 func DecodeMessage(b []byte) (api.Message, error) { return wire.DecodeMessage(b) }
 
-// Log is records on a disk.
-type Log struct{}
+// Log is records on a disk (P6 to P11).
+type Log = journal.Log
 
 // OpenLog opens the log of a disk (P6, P10).
-func OpenLog(d api.Disk) (*Log, error) { return nil, nil }
-
-// Append: a record more (P7).
-func (l *Log) Append(kind uint8, payload string) (uint64, error) { return 0, nil }
-
-// Force: all is durable (P8).
-func (l *Log) Force() error { return nil }
-
-// Cut: what lies below is no longer needed (P9).
-func (l *Log) Cut(low uint64) error { return nil }
-
-// Next: the number of the next record (P7).
-func (l *Log) Next() uint64 { return 0 }
-
-// All walks through the records (P7).
-func (l *Log) All() func(yield func(api.Record) bool) { return nil }
+func OpenLog(d api.Disk) (*Log, error) { return journal.Open(d) }
 
 // Shard is keys and values, and transactions that work on them.
 type Shard struct{}
