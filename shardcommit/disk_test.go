@@ -34,7 +34,8 @@ type disk struct {
 	says         error // what it says then
 	goesDown     bool  // what fails then is the power: no call is done from then on
 	down         bool
-	beginning    int // how many bytes of the data are written when it fails without going down
+	beginning    int  // how many bytes of the data are written when it fails without going down
+	halves       bool // of what is begun when the power fails half is there: the log's tests go through other beginnings
 }
 
 func newDisk() *disk {
@@ -181,6 +182,9 @@ func (d *disk) lose(choose func(n int) int) {
 		}
 		if fate == begun {
 			ends := beginnings(len(c.data))
+			if d.halves {
+				ends = []int{len(c.data) / 2}
+			}
 			c.data = c.data[:ends[choose(len(ends))]]
 		}
 		if fate != kept && c.kind == 'a' {
@@ -208,6 +212,25 @@ func beginnings(bytes int) []int {
 		ends[i] = i
 	}
 	return ends
+}
+
+// fail chooses how, and at which call that writes, the disk fails.
+func (d *disk) fail(choose func(n int) int, calls int) {
+	how, at := choose(3), 1+choose(calls)
+	if how == 0 {
+		d.falling(at)
+		return
+	}
+	d.failing(at, api.ErrFull)
+	d.beginning = 9 * (how - 1)
+}
+
+// loseSome: the power fails. If the disk did not go down it may also be that the next one is opened without that.
+func (d *disk) loseSome(choose func(n int) int) {
+	if d.down || choose(2) == 0 {
+		d.lose(choose)
+	}
+	d.well()
 }
 
 // well: nothing fails from here on.

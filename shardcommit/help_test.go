@@ -50,3 +50,58 @@ func scribble(b []byte) {
 		b[i] = '!'
 	}
 }
+
+// opened opens a keeper that must open.
+func opened[K any](t *testing.T, open func(api.Disk) (*K, error), d api.Disk) *K {
+	t.Helper()
+	k, err := open(d)
+	if k == nil || err != nil {
+		t.Fatalf("opened: %v, %v", k != nil, err)
+	}
+	return k
+}
+
+// again: the power fails, and all is lost that can be; a keeper is opened anew.
+func again[K any](t *testing.T, open func(api.Disk) (*K, error), d *disk) *K {
+	t.Helper()
+	d.lose(loseAll)
+	return opened(t, open, d)
+}
+
+// stays: what is opened by open must open now, and once more behind other failures of the power (open sees to it that it is the same).
+func stays(t *testing.T, d *disk, open func() bool) {
+	t.Helper()
+	d.well()
+	for range 2 {
+		if !open() {
+			t.Fatalf("it does not open")
+		}
+		d.lose(loseAll)
+	}
+	if !open() {
+		t.Fatalf("it does not open")
+	}
+}
+
+// failsToOpen: whichever call fails of the disk that another left, the keeper is not opened, and just what the disk said is told; later sees what one is that is opened then.
+func failsToOpen[K any](t *testing.T, left func() *disk, open func(api.Disk) (*K, error), later func(k *K)) {
+	t.Helper()
+	for _, says := range []error{errBroken, api.ErrDown, api.ErrFull} {
+		for at := 1; ; at++ {
+			d := left()
+			d.lose(loseAll)
+			d.asksAt, d.says = at, says
+			k, err := open(d)
+			if d.asksAt > 0 {
+				if at < 6 {
+					t.Errorf("it calls the disk %d times", at-1)
+				}
+				break
+			}
+			if k != nil || err != says {
+				t.Fatalf("call %d says %v: opened: %v, %v", at, says, k != nil, err)
+			}
+			later(again(t, open, d))
+		}
+	}
+}

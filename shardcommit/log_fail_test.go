@@ -160,38 +160,9 @@ func (v *logLife) open() bool {
 	return true
 }
 
-// reopen: it must open now; and once more, behind another failure of the power, it has just the same.
 func (v *logLife) reopen() {
 	v.t.Helper()
-	v.d.well()
-	for range 2 {
-		if !v.open() {
-			v.t.Fatalf("it does not open")
-		}
-		v.d.lose(loseAll)
-	}
-	if !v.open() {
-		v.t.Fatalf("it does not open")
-	}
-}
-
-// fail chooses how, and at which call that writes, the disk fails.
-func (v *logLife) fail(choose func(n int) int, calls int) {
-	how, at := choose(3), 1+choose(calls)
-	if how == 0 {
-		v.d.falling(at)
-		return
-	}
-	v.d.failing(at, api.ErrFull)
-	v.d.beginning = 9 * (how - 1)
-}
-
-// lose: the power fails. If the disk did not go down it may also be that the next log is opened without that.
-func (v *logLife) lose(choose func(n int) int) {
-	if v.d.down || choose(2) == 0 {
-		v.d.lose(choose)
-	}
-	v.d.well()
+	stays(v.t, v.d, v.open)
 }
 
 // P10, P11: each of these, with all that the disk can do at it; and then again while the log is opened anew.
@@ -220,12 +191,12 @@ func TestP10P11Everywhere(t *testing.T) {
 			outcomes(func(choose func(n int) int) {
 				v := newLogLife(t)
 				c.ahead(v)
-				v.fail(choose, c.calls)
+				v.d.fail(choose, c.calls)
 				c.then(v)
-				v.lose(choose)
-				v.fail(choose, 5)
+				v.d.loseSome(choose)
+				v.d.fail(choose, 5)
 				v.open()
-				v.lose(choose)
+				v.d.loseSome(choose)
 				v.reopen()
 				v.append(1)
 				v.append(1)
@@ -244,7 +215,7 @@ func TestP10P11ManyLives(t *testing.T) {
 		v := newLogLife(t)
 		for range 6 {
 			if r.Intn(4) > 0 {
-				v.fail(r.Intn, 1+r.Intn(60))
+				v.d.fail(r.Intn, 1+r.Intn(60))
 			}
 			for range r.Intn(60) {
 				switch r.Intn(12) {
@@ -259,11 +230,11 @@ func TestP10P11ManyLives(t *testing.T) {
 					break
 				}
 			}
-			v.lose(r.Intn)
+			v.d.loseSome(r.Intn)
 			for r.Intn(3) > 0 {
-				v.fail(r.Intn, 6)
+				v.d.fail(r.Intn, 6)
 				v.open()
-				v.lose(r.Intn)
+				v.d.loseSome(r.Intn)
 			}
 			v.reopen()
 		}

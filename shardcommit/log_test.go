@@ -13,21 +13,14 @@ import (
 	"shardcommit/shardcommit"
 )
 
-// logOver opens a log that must open.
 func logOver(t *testing.T, d api.Disk) *shardcommit.Log {
 	t.Helper()
-	l, err := shardcommit.OpenLog(d)
-	if l == nil || err != nil {
-		t.Fatalf("OpenLog = %v, %v", l != nil, err)
-	}
-	return l
+	return opened(t, shardcommit.OpenLog, d)
 }
 
-// reopened: the power fails, and all is lost that can be.
-func reopened(t *testing.T, d *disk) *shardcommit.Log {
+func logAgain(t *testing.T, d *disk) *shardcommit.Log {
 	t.Helper()
-	d.lose(loseAll)
-	return logOver(t, d)
+	return again(t, shardcommit.OpenLog, d)
 }
 
 func recordsOf(t *testing.T, l *shardcommit.Log) []api.Record {
@@ -78,7 +71,7 @@ func TestP6EmptyLog(t *testing.T) {
 	if err := l.Force(); err != nil {
 		t.Errorf("Force of an empty log: %v", err)
 	}
-	l = reopened(t, d)
+	l = logAgain(t, d)
 	wantRecords(t, l, 1, 0, 0)
 	mustAppend(t, l, 3)
 	wantRecords(t, l, 1, 1, 3)
@@ -100,38 +93,25 @@ func TestP6NoDisk(t *testing.T) {
 	}
 }
 
-// P6: whichever call of the disk fails, OpenLog says just what the disk said, and a log that is opened later has all.
+// P6: the error is what the disk said, and a log that is opened later has all.
 func TestP6TheDiskSaysAnError(t *testing.T) {
-	for _, says := range []error{errBroken, api.ErrDown, api.ErrFull} {
-		for at := 1; ; at++ {
-			d := newDisk()
-			l := logOver(t, d)
-			for range 20 {
-				mustAppend(t, l, 100)
-			}
-			d.failing(6, errBroken) // the mark is set, and the files below it are there still
-			if err := l.Cut(15); err != errBroken {
-				t.Fatalf("Cut = %v", err)
-			}
-			d.lose(loseAll)
-			d.asksAt, d.says = at, says
-			l, err := shardcommit.OpenLog(d)
-			if d.asksAt > 0 {
-				if at < 8 {
-					t.Errorf("OpenLog calls the disk %d times", at-1)
-				}
-				break
-			}
-			if l != nil || err != says {
-				t.Fatalf("call %d says %v: OpenLog = %v, %v", at, says, l != nil, err)
-			}
-			l = reopened(t, d)
-			got := recordsOf(t, l)
-			if l.Next() != 21 || got[0].LSN > 15 {
-				t.Fatalf("call %d failed: later %d records, next %d", at, len(got), l.Next())
-			}
+	left := func() *disk {
+		d := newDisk()
+		l := logOver(t, d)
+		for range 20 {
+			mustAppend(t, l, 100)
 		}
+		d.failing(6, errBroken) // the mark is set, and the files below it are there still
+		if err := l.Cut(15); err != errBroken {
+			t.Fatalf("Cut = %v", err)
+		}
+		return d
 	}
+	failsToOpen(t, left, shardcommit.OpenLog, func(l *shardcommit.Log) {
+		if got := recordsOf(t, l); l.Next() != 21 || got[0].LSN > 15 {
+			t.Fatalf("later %d records, next %d", len(got), l.Next())
+		}
+	})
 }
 
 func TestP7Append(t *testing.T) {
@@ -160,7 +140,7 @@ func TestP7Append(t *testing.T) {
 	if err := l.Force(); err != nil {
 		t.Errorf("Force = %v", err)
 	}
-	l = reopened(t, d)
+	l = logAgain(t, d)
 	if got := recordsOf(t, l); !slices.Equal(got, want) || l.Next() != 4 {
 		t.Errorf("later: records %v, next %d", got, l.Next())
 	}
@@ -217,13 +197,13 @@ func TestP8Force(t *testing.T) {
 			t.Fatalf("Force = %v", err)
 		}
 		wantRecords(t, l, 1, uint64(count), 37)
-		l = reopened(t, d)
+		l = logAgain(t, d)
 		wantRecords(t, l, 1, uint64(count), 37)
 		mustAppend(t, l, 37)
 		if err := l.Force(); err != nil {
 			t.Fatalf("Force = %v", err)
 		}
-		wantRecords(t, reopened(t, d), 1, uint64(count)+1, 37)
+		wantRecords(t, logAgain(t, d), 1, uint64(count)+1, 37)
 	}
 }
 
@@ -239,7 +219,7 @@ func TestP8ForceOfWhatAnotherLeft(t *testing.T) {
 	if err := l.Force(); err != nil {
 		t.Fatalf("Force = %v", err)
 	}
-	wantRecords(t, reopened(t, d), 1, 7, 37)
+	wantRecords(t, logAgain(t, d), 1, 7, 37)
 }
 
 // checkCut: behind a Cut at low of a log that has records up to last.
@@ -284,7 +264,7 @@ func TestP9Cut(t *testing.T) {
 				}
 				first := checkCut(t, l, low, count, bytes)
 				for range 2 {
-					l = reopened(t, d)
+					l = logAgain(t, d)
 					wantRecords(t, l, first, count, bytes)
 				}
 				mustAppend(t, l, bytes)
@@ -313,7 +293,7 @@ func TestP9CutAgain(t *testing.T) {
 		}
 		was = first
 		if low == 30 {
-			l = reopened(t, d)
+			l = logAgain(t, d)
 			wantRecords(t, l, first, 200, 60)
 		}
 	}
@@ -337,7 +317,7 @@ func TestP9CutForces(t *testing.T) {
 		if err := l.Force(); err != nil || d.writes != writes {
 			t.Errorf("Force behind Cut = %v, and writes %d times", err, d.writes-writes)
 		}
-		if l = reopened(t, d); l.Next() != 31 {
+		if l = logAgain(t, d); l.Next() != 31 {
 			t.Errorf("behind Cut(%d) the next is %d", low, l.Next())
 		}
 	}
@@ -361,7 +341,7 @@ func TestP2LogSharesNothing(t *testing.T) {
 	if err := l.Cut(2); err != nil || !slices.Equal(recordsOf(t, l), want) {
 		t.Errorf("records %v, %v", recordsOf(t, l), err)
 	}
-	if got := recordsOf(t, reopened(t, d)); !slices.Equal(got, want) || d.now["segment-01"] != "no segment" || d.now["other"] != "no segment" {
+	if got := recordsOf(t, logAgain(t, d)); !slices.Equal(got, want) || d.now["segment-01"] != "no segment" || d.now["other"] != "no segment" {
 		t.Errorf("later: records %v on %v", got, d)
 	}
 }

@@ -4,6 +4,7 @@ package shardcommit
 import (
 	"shardcommit/api"
 	"shardcommit/journal"
+	"shardcommit/shard"
 	"shardcommit/wire"
 )
 
@@ -25,47 +26,11 @@ type Log = journal.Log
 // OpenLog opens the log of a disk (P6, P10).
 func OpenLog(d api.Disk) (*Log, error) { return journal.Open(d) }
 
-// Shard is keys and values, and transactions that work on them.
-type Shard struct{}
+// Shard is keys and values, and transactions that work on them (P12 to P22).
+type Shard = shard.Shard
 
 // OpenShard opens the shard of a disk (P12, P20).
-func OpenShard(d api.Disk) (*Shard, error) { return nil, nil }
-
-// Get: a value (P13, P14).
-func (s *Shard) Get(txn uint64, seq int, key string) (string, bool, error) { return "", false, nil }
-
-// Put: a value is to be this (P13, P14).
-func (s *Shard) Put(txn uint64, seq int, key string, value string) error { return nil }
-
-// Delete: a key is to have no value (P13, P14).
-func (s *Shard) Delete(txn uint64, seq int, key string) error { return nil }
-
-// Prepare: the vote (P15).
-func (s *Shard) Prepare(txn uint64) (int, error) { return 0, nil }
-
-// Commit: it counts (P16).
-func (s *Shard) Commit(txn uint64) error { return nil }
-
-// Abort: it does not (P17).
-func (s *Shard) Abort(txn uint64) error { return nil }
-
-// Tick: work that nobody goes on with is dropped (P18).
-func (s *Shard) Tick() {}
-
-// State: of a transaction (P13).
-func (s *Shard) State(txn uint64) int { return 0 }
-
-// Waiting: transactions that are prepared (P19).
-func (s *Shard) Waiting() []uint64 { return nil }
-
-// Value: what is committed of a key (P19).
-func (s *Shard) Value(key string) (string, bool) { return "", false }
-
-// All walks through what is committed (P19).
-func (s *Shard) All() func(yield func(key string, value string) bool) { return nil }
-
-// Checkpoint writes anew what is durable (P22).
-func (s *Shard) Checkpoint() error { return nil }
+func OpenShard(d api.Disk) (*Shard, error) { return shard.Open(d) }
 
 // Coordinator is transactions that are decided.
 type Coordinator struct{}

@@ -11,10 +11,10 @@ func EncodeMessage(m api.Message) ([]byte, error) {
 		return nil, api.ErrFrame
 	}
 	b := make([]byte, 0, messageSize)
-	b = appendNumber(b, uint8(m.Kind))
-	b = appendNumber(b, uint8(m.From))
-	b = appendNumber(b, uint8(m.To))
-	b = appendNumber(b, m.Txn)
+	b = AppendNumber(b, uint8(m.Kind))
+	b = AppendNumber(b, uint8(m.From))
+	b = AppendNumber(b, uint8(m.To))
+	b = AppendNumber(b, m.Txn)
 	var s sums
 	return s.seal(b), nil
 }

@@ -12,8 +12,8 @@ func width[N unsigned]() int {
 	return bits.Len64(uint64(^N(0))) / 8
 }
 
-// appendNumber writes a number behind b, its highest byte first.
-func appendNumber[N unsigned](b []byte, n N) []byte {
+// AppendNumber writes a number behind b, its highest byte first.
+func AppendNumber[N unsigned](b []byte, n N) []byte {
 	for left := width[N]() - 1; left >= 0; left-- {
 		b = append(b, byte(uint64(n)>>(8*left)))
 	}

@@ -9,9 +9,9 @@ import (
 func checkNumber[N unsigned](t *testing.T, n N, want ...byte) {
 	t.Helper()
 	head := []byte{9, 9}
-	got := appendNumber(head, n)
+	got := AppendNumber(head, n)
 	if !bytes.Equal(got, append([]byte{9, 9}, want...)) {
-		t.Errorf("appendNumber(%d) = %x, want 0909%x", n, got, want)
+		t.Errorf("AppendNumber(%d) = %x, want 0909%x", n, got, want)
 	}
 	back, rest := takeNumber[N](append(append([]byte{}, want...), 7, 8))
 	if back != n || !bytes.Equal(rest, []byte{7, 8}) {

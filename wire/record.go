@@ -9,9 +9,9 @@ func EncodeRecord(r api.Record) ([]byte, error) {
 		return nil, api.ErrBig
 	}
 	b := make([]byte, 0, api.Overhead+len(r.Payload))
-	b = appendNumber(b, uint16(len(r.Payload)))
-	b = appendNumber(b, r.LSN)
-	b = appendNumber(b, r.Kind)
+	b = AppendNumber(b, uint16(len(r.Payload)))
+	b = AppendNumber(b, r.LSN)
+	b = AppendNumber(b, r.Kind)
 	b = append(b, r.Payload...)
 	var s sums
 	return s.seal(b), nil

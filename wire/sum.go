@@ -42,7 +42,7 @@ func turned(c uint32) uint32 {
 
 // seal writes the sum of all of b behind it.
 func (s *sums) seal(b []byte) []byte {
-	return appendNumber(b, s.of(b))
+	return AppendNumber(b, s.of(b))
 }
 
 // unseal hands on what lies ahead of the sum at the end of b; false: b has not its right sum there.
