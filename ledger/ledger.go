@@ -6,6 +6,7 @@ import (
 
 	"shardcommit/api"
 	"shardcommit/journal"
+	"shardcommit/wire"
 )
 
 // The kinds of records that are no entry as it was noted. An entry of a checkpoint has the kind of the entry and the bit of a checkpoint: so one of a checkpoint that was not ended is never taken for one that was noted behind it.
@@ -20,8 +21,8 @@ type Ledger struct {
 	log *journal.Log
 }
 
-// Open opens the ledger of a disk, over nothing or over what another ledger left. ErrFrame, if entries went and no checkpoint stands for them: no failure of power does that.
-func Open(d api.Disk) (*Ledger, error) {
+// Open opens the ledger of a disk, over nothing or over what another ledger left; read is handed the entries that count, and says whether each is one of its own. ErrFrame, if one is not, or if entries went and no checkpoint stands for them: no failure of power does that.
+func Open(d api.Disk, read func(kind uint8, fields *wire.Fields) bool) (*Ledger, error) {
 	log, err := journal.Open(d)
 	if err != nil {
 		return nil, err
@@ -29,6 +30,11 @@ func Open(d api.Disk) (*Ledger, error) {
 	l := &Ledger{log: log}
 	if begin, _ := l.lastCheckpoint(); begin == 0 && firstOf(log) > 1 {
 		return nil, api.ErrFrame
+	}
+	for kind, payload := range l.all() {
+		if !read(kind, wire.FieldsOf(payload)) {
+			return nil, api.ErrFrame
+		}
 	}
 	return l, nil
 }
@@ -41,8 +47,8 @@ func firstOf(log *journal.Log) uint64 {
 	return log.Next()
 }
 
-// All: a walk through the entries that count: those of the last checkpoint, and those that were noted behind it.
-func (l *Ledger) All() iter.Seq2[uint8, string] {
+// all: a walk through the entries that count: those of the last checkpoint, and those that were noted behind it.
+func (l *Ledger) all() iter.Seq2[uint8, string] {
 	return func(yield func(kind uint8, payload string) bool) {
 		begin, end := l.lastCheckpoint()
 		for r := range l.log.All() {

@@ -3,6 +3,7 @@ package shard
 import (
 	"iter"
 
+	"shardcommit/order"
 	"shardcommit/wire"
 )
 
@@ -17,7 +18,7 @@ const (
 // preparedEntry tells a transaction and what it holds.
 func preparedEntry(txn uint64, held map[string]grip) string {
 	b := wire.AppendNumber(nil, txn)
-	for key, g := range byKeys(held) {
+	for key, g := range order.ByKeys(held) {
 		b = wire.AppendNumber(b, g.way)
 		b = wire.AppendText(b, key)
 		b = wire.AppendText(b, g.value)
@@ -38,7 +39,7 @@ func valuedEntry(key string, value string) string {
 // entries: a walk through entries by which a shard that is opened later has all that is durable here.
 func (s *Shard) entries() iter.Seq2[uint8, string] {
 	return func(yield func(kind uint8, payload string) bool) {
-		for key, value := range byKeys(s.values) {
+		for key, value := range order.ByKeys(s.values) {
 			if !yield(valued, valuedEntry(key, value)) {
 				return
 			}

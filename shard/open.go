@@ -8,21 +8,16 @@ import (
 
 // Open opens the shard of a disk, over nothing or over what another shard left.
 func Open(d api.Disk) (*Shard, error) {
-	entries, err := ledger.Open(d)
-	if err != nil {
-		return nil, err
-	}
 	s := &Shard{
-		ledger: entries,
 		values: map[string]string{},
 		txns:   map[uint64]transaction{},
 		holds:  map[hold]grip{},
 	}
-	for kind, payload := range entries.All() {
-		if !s.read(kind, wire.FieldsOf(payload)) {
-			return nil, api.ErrFrame
-		}
+	entries, err := ledger.Open(d, s.read)
+	if err != nil {
+		return nil, err
 	}
+	s.ledger = entries
 	return s, nil
 }
 

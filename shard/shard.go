@@ -7,6 +7,7 @@ import (
 
 	"shardcommit/api"
 	"shardcommit/ledger"
+	"shardcommit/order"
 )
 
 // Shard is what is committed, and the transactions that are known, with what they hold. The ledger has what is durable of that.
@@ -107,7 +108,7 @@ func (s *Shard) State(txn uint64) int { return s.txns[txn].state }
 // Waiting: the transactions that are prepared, the lowest first.
 func (s *Shard) Waiting() []uint64 {
 	var waiting []uint64
-	for txn, t := range byKeys(s.txns) {
+	for txn, t := range order.ByKeys(s.txns) {
 		if t.state == api.Prepared {
 			waiting = append(waiting, txn)
 		}
@@ -123,5 +124,5 @@ func (s *Shard) Value(key string) (string, bool) {
 
 // All: a walk through what is committed when it is begun, by keys.
 func (s *Shard) All() func(yield func(key string, value string) bool) {
-	return byKeys(s.values)
+	return order.ByKeys(s.values)
 }

@@ -4,9 +4,12 @@ import (
 	"encoding/binary"
 	"encoding/hex"
 	"hash/crc32"
+	"strconv"
+	"strings"
 	"testing"
 
 	"shardcommit/api"
+	"shardcommit/shardcommit"
 )
 
 // These write bytes by the library's means, without the project's, so that both must agree on what the document says.
@@ -48,6 +51,38 @@ func untouched(b []byte, want []byte) bool {
 func scribble(b []byte) {
 	for i := range b {
 		b[i] = '!'
+	}
+}
+
+// ask calls a shard or coordinator, by words, and tells what it answered, or the error.
+func ask(keeper any, words string) string {
+	switch k := keeper.(type) {
+	case *shardcommit.Shard:
+		return askShard(k, words)
+	case *shardcommit.Coordinator:
+		return askCoordinator(k, words)
+	}
+	return "no such keeper"
+}
+
+// orError: the answer, or, if there is an error, that: the program's own by its number.
+func orError(answer string, err error) string {
+	if e, ok := err.(api.Errno); ok {
+		return strconv.Itoa(int(e))
+	} else if err != nil {
+		return err.Error()
+	}
+	return answer
+}
+
+// wantAnswers asks one behind the other: "put 1 0 a x: done".
+func wantAnswers(t *testing.T, keeper any, rows ...string) {
+	t.Helper()
+	for i, row := range rows {
+		words, want, _ := strings.Cut(row, ": ")
+		if got := ask(keeper, words); got != want {
+			t.Fatalf("row %d: %s: %s, want %s", i, words, got, want)
+		}
 	}
 }
 
@@ -102,6 +137,17 @@ func failsToOpen[K any](t *testing.T, left func() *disk, open func(api.Disk) (*K
 				t.Fatalf("call %d says %v: opened: %v, %v", at, says, k != nil, err)
 			}
 			later(again(t, open, d))
+		}
+	}
+}
+
+// writeRecords: a disk has a log with these records.
+func writeRecords(t *testing.T, d *disk, records []api.Record) {
+	t.Helper()
+	l := logOver(t, d)
+	for _, r := range records {
+		if _, err := l.Append(r.Kind, r.Payload); err != nil {
+			t.Fatalf("Append = %v", err)
 		}
 	}
 }

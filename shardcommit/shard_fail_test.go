@@ -13,19 +13,16 @@ import (
 	"shardcommit/shardcommit"
 )
 
-// shardLife is a shard, and by what was asked of it that which it must be, and which one may be that is opened behind it.
+// shardLife is a shard, and what it must be.
 type shardLife struct {
-	t      *testing.T
-	d      *disk
-	s      *shardcommit.Shard
-	m      *shardModel
-	may    []*shardModel // what one that is opened later may have: up to which Abort, up to the call that failed
-	failed bool          // the disk failed
-	quiet  bool          // nothing is checked: it was, in another life
+	life[shardcommit.Shard, *shardModel]
 }
 
 func newShardLife(t *testing.T) *shardLife {
-	v := &shardLife{t: t, d: newDisk(), may: []*shardModel{newShardModel()}}
+	v := &shardLife{}
+	v.t, v.d, v.may = t, newDisk(), []*shardModel{newShardModel()}
+	v.openIt, v.look = shardcommit.OpenShard, v.lookAtIt
+	v.seen = func(d *disk) string { return pictureOf(t, d, shardKeys) }
 	v.open()
 	return v
 }
@@ -39,11 +36,11 @@ func (v *shardLife) operate(kind string, txn uint64, seq int, key, value string)
 	var err error
 	switch kind {
 	case "get":
-		got, ok, err = v.s.Get(txn, seq, key)
+		got, ok, err = v.k.Get(txn, seq, key)
 	case "put":
-		err = v.s.Put(txn, seq, key, value)
+		err = v.k.Put(txn, seq, key, value)
 	case "delete":
-		err = v.s.Delete(txn, seq, key)
+		err = v.k.Delete(txn, seq, key)
 	}
 	want, wantOk, wantErr := v.m.operate(kind, txn, seq, key, value)
 	if got != want || ok != wantOk || err != wantErr || v.d.calls != calls {
@@ -65,48 +62,10 @@ func (v *shardLife) next(txn uint64) int {
 	return 0
 }
 
-// wrote: a call that writes, if it turns things, said this. Was it done? Then what one that is opened later may have goes on with what there is now, or, if that is durable, is just that.
-func (v *shardLife) wrote(err error, turn func(m *shardModel), durable bool) bool {
-	v.t.Helper()
-	if err == nil && v.failed {
-		v.t.Fatalf("a call that writes is done, and the disk had failed")
-	}
-	if err != nil {
-		if !disks(err) {
-			v.t.Fatalf("the disk said another error than %v", err)
-		}
-		if !v.failed {
-			then := v.m.durable()
-			turnWorking(then, v.m)
-			turn(then)
-			v.may = append(v.may, then.durable())
-		}
-		v.failed = true
-		v.check()
-		return false
-	}
-	turn(v.m)
-	if durable {
-		v.may = nil
-	}
-	v.may = append(v.may, v.m.durable())
-	v.check()
-	return true
-}
-
-// turnWorking: a model that is to be turned as another would be has those that work there too.
-func turnWorking(to, from *shardModel) {
-	for id, t := range from.txns {
-		if t.state == api.Working {
-			to.txns[id] = &modelTxn{state: t.state, done: t.done, reads: maps.Clone(t.reads), writes: maps.Clone(t.writes)}
-		}
-	}
-}
-
 func (v *shardLife) prepare(txn uint64) {
 	v.t.Helper()
 	calls := v.d.calls
-	got, err := v.s.Prepare(txn)
+	got, err := v.k.Prepare(txn)
 	t := v.m.txns[txn]
 	if t != nil && t.state == api.Working && len(t.writes) > 0 {
 		if v.wrote(err, func(m *shardModel) { m.prepare(txn) }, true) != (got == api.Yes) || err != nil && got != 0 {
@@ -123,7 +82,7 @@ func (v *shardLife) prepare(txn uint64) {
 func (v *shardLife) commit(txn uint64) {
 	v.t.Helper()
 	calls := v.d.calls
-	err := v.s.Commit(txn)
+	err := v.k.Commit(txn)
 	if v.m.state(txn) == api.Prepared {
 		v.wrote(err, func(m *shardModel) { m.commit(txn) }, true)
 		return
@@ -141,7 +100,7 @@ func (v *shardLife) commit(txn uint64) {
 func (v *shardLife) abort(txn uint64) {
 	v.t.Helper()
 	calls := v.d.calls
-	err := v.s.Abort(txn)
+	err := v.k.Abort(txn)
 	if v.m.state(txn) == api.Prepared {
 		v.wrote(err, func(m *shardModel) { delete(m.txns, txn) }, false)
 		return
@@ -155,7 +114,7 @@ func (v *shardLife) abort(txn uint64) {
 
 func (v *shardLife) checkpoint() {
 	v.t.Helper()
-	if !v.wrote(v.s.Checkpoint(), func(*shardModel) {}, true) {
+	if !v.wrote(v.k.Checkpoint(), func(*shardModel) {}, true) {
 		return
 	}
 	if most := 2000 + 200*len(v.m.values) + 400*len(v.m.waiting()); v.d.size() > most || len(v.d.pending) > 0 {
@@ -166,7 +125,7 @@ func (v *shardLife) checkpoint() {
 func (v *shardLife) tick() {
 	v.t.Helper()
 	calls := v.d.calls
-	v.s.Tick()
+	v.k.Tick()
 	v.m.tick()
 	if v.d.calls != calls {
 		v.t.Fatalf("Tick calls the disk")
@@ -174,31 +133,24 @@ func (v *shardLife) tick() {
 	v.check()
 }
 
-// check: the shard is what it must be, as far as can be seen without turning it.
-func (v *shardLife) check() {
+// lookAtIt: the shard is what it must be.
+func (v *shardLife) lookAtIt() {
 	v.t.Helper()
-	if v.quiet {
-		return
-	}
-	calls := v.d.calls
 	got := map[string]string{}
 	last := ""
-	for key, value := range v.s.All() {
+	for key, value := range v.k.All() {
 		if key <= last {
 			v.t.Fatalf("All: %q behind %q", key, last)
 		}
 		got[key], last = value, key
 	}
-	if !maps.Equal(got, v.m.values) || !slices.Equal(v.s.Waiting(), v.m.waiting()) {
-		v.t.Fatalf("%v, waiting %v, want %v, waiting %v", got, v.s.Waiting(), v.m.values, v.m.waiting())
+	if !maps.Equal(got, v.m.values) || !slices.Equal(v.k.Waiting(), v.m.waiting()) {
+		v.t.Fatalf("%v, waiting %v, want %v, waiting %v", got, v.k.Waiting(), v.m.values, v.m.waiting())
 	}
 	for txn := range uint64(20) {
-		if v.s.State(txn) != v.m.state(txn) {
-			v.t.Fatalf("State(%d) = %d, want %d", txn, v.s.State(txn), v.m.state(txn))
+		if v.k.State(txn) != v.m.state(txn) {
+			v.t.Fatalf("State(%d) = %d, want %d", txn, v.k.State(txn), v.m.state(txn))
 		}
-	}
-	if v.d.calls != calls {
-		v.t.Fatalf("the disk is called by All, Waiting or State")
 	}
 }
 
@@ -239,45 +191,8 @@ func valuesOf(s *shardcommit.Shard) map[string]string {
 	return maps.Collect(s.All())
 }
 
-// copyOf: a disk that has what this one has now.
-func copyOf(d *disk) *disk {
-	other := newDisk()
-	other.now, other.durable = maps.Clone(d.now), maps.Clone(d.now)
-	return other
-}
-
 // shardKeys: the keys that the lives here work on, in their order.
 var shardKeys = []string{"a", "b", "c", "d", "e", "f", "key of 16 bytes!"}
-
-// open opens the shard anew, over what there is; false: the disk failed at that.
-func (v *shardLife) open() bool {
-	v.t.Helper()
-	s, err := shardcommit.OpenShard(v.d)
-	if (s == nil) != (err != nil) || err != nil && !disks(err) {
-		v.t.Fatalf("OpenShard = %v, %v; the disk has %v", s != nil, err, v.d)
-	}
-	if err != nil {
-		return false
-	}
-	got := pictureOf(v.t, v.d, shardKeys)
-	var pictures []string
-	for _, m := range v.may {
-		pictures = append(pictures, m.picture())
-	}
-	at := slices.Index(pictures, got)
-	if at < 0 {
-		v.t.Fatalf("opened: %s\nwant one of\n%s", got, strings.Join(pictures, "\n"))
-	}
-	v.s, v.m, v.failed = s, v.may[at].durable(), false
-	v.may = []*shardModel{v.m.durable()}
-	v.check()
-	return true
-}
-
-func (v *shardLife) reopen() {
-	v.t.Helper()
-	stays(v.t, v.d, v.open)
-}
 
 // filled: a and c are committed; 2 is prepared (reads a, writes b), 3 (deletes c) too; 4 works, 5 is doomed.
 func (v *shardLife) filled() {
@@ -309,7 +224,7 @@ func (v *shardLife) rounds(n int) {
 // P20 to P22: each of these, with all that the disk can do at it; and then again while the shard is opened anew.
 func TestP20P21P22Everywhere(t *testing.T) {
 	filled := (*shardLife).filled
-	for name, c := range map[string]struct{ ahead, then func(v *shardLife) }{
+	everywhere(t, newShardLife, map[string]deed[*shardLife]{
 		"Prepare":       {filled, func(v *shardLife) { v.prepare(4) }},
 		"Prepare first": {func(v *shardLife) { v.put(4, "a", "x") }, func(v *shardLife) { v.prepare(4) }},
 		"Prepare behind Aborts": {
@@ -342,48 +257,11 @@ func TestP20P21P22Everywhere(t *testing.T) {
 			func(v *shardLife) { v.filled(); v.checkpoint(); v.commit(2); v.abort(3) },
 			(*shardLife).checkpoint,
 		},
-	} {
-		t.Run(name, func(t *testing.T) {
-			t.Parallel()
-			dry := newShardLife(t)
-			c.ahead(dry)
-			writes := -dry.d.writes
-			c.then(dry)
-			writes += dry.d.writes
-			outcomes(func(choose func(n int) int) {
-				v := newShardLife(t)
-				v.d.halves, v.quiet = true, true
-				c.ahead(v)
-				v.quiet = false
-				v.d.fail(choose, writes+1)
-				c.then(v)
-				if v.failed {
-					v.behindFailure()
-				}
-				v.d.loseSome(choose)
-				// The log's tests go through all that can be lost while it is opened: here all or nothing is.
-				at, fate := choose(3), choose(2)
-				v.d.falling(at)
-				if at > 0 && choose(2) == 1 {
-					v.d.failing(at, api.ErrFull)
-				}
-				v.open()
-				v.d.lose(func(int) int { return fate })
-				v.reopen()
-				v.put(7, "f", "later")
-				v.prepare(7)
-				v.commit(7)
-				v.d.lose(loseAll)
-				v.open()
-			})
-		})
-	}
+	})
 }
 
-// behindFailure: what writes says an error, all else is as ever, and the disk is not called (the calls see to that).
 func (v *shardLife) behindFailure() {
 	v.t.Helper()
-	calls := v.d.calls
 	v.put(6, "f", "x")
 	v.operate("get", 6, 1, "f", "")
 	for txn := range uint64(9) {
@@ -404,46 +282,18 @@ func (v *shardLife) behindFailure() {
 	for range 20 {
 		v.tick()
 	}
-	if v.d.calls != calls {
-		v.t.Fatalf("behind a failure the disk is called")
-	}
+}
+
+func (v *shardLife) later() {
+	v.t.Helper()
+	v.put(7, "f", "later")
+	v.prepare(7)
+	v.commit(7)
 }
 
 // P20 to P22, and P13 to P19 on the way: many lives, of all kinds of calls, with failures anywhere.
-func TestP20P21P22ManyLives(t *testing.T) {
-	for part := range int64(8) {
-		t.Run(strconv.FormatInt(part, 10), func(t *testing.T) {
-			t.Parallel()
-			for seed := part; seed < 400; seed += 8 {
-				manyLives(t, rand.New(rand.NewSource(seed)))
-			}
-		})
-	}
-}
+func TestP20P21P22ManyLives(t *testing.T) { manyLives(t, newShardLife) }
 
-func manyLives(t *testing.T, r *rand.Rand) {
-	v := newShardLife(t)
-	for range 5 {
-		if r.Intn(4) > 0 {
-			v.d.fail(r.Intn, 1+r.Intn(40))
-		}
-		for left := r.Intn(120); left > 0; left-- {
-			v.step(r)
-			if v.d.down && r.Intn(8) == 0 {
-				break
-			}
-		}
-		v.d.loseSome(r.Intn)
-		for r.Intn(3) > 0 {
-			v.d.fail(r.Intn, 6)
-			v.open()
-			v.d.loseSome(r.Intn)
-		}
-		v.reopen()
-	}
-}
-
-// step: any call, mostly one that turns something.
 func (v *shardLife) step(r *rand.Rand) {
 	txn := uint64(1 + r.Intn(15))
 	switch n := r.Intn(24); {
@@ -477,7 +327,7 @@ func TestP21TheErrorIsTheDisks(t *testing.T) {
 			v.rounds(6)
 			v.filled()
 			v.d.failing(at, errBroken)
-			got := asked(v.s, words)
+			got := ask(v.k, words)
 			if v.d.failsAt > 0 {
 				if at == 1 || words == "checkpoint" && at < 15 {
 					t.Errorf("%s writes %d times", words, at-1)
@@ -489,9 +339,9 @@ func TestP21TheErrorIsTheDisks(t *testing.T) {
 			}
 			v.check()
 			calls := v.d.calls
-			wantAnswers(t, v.s, words+": broken", "prepare 4: broken", "commit 2: broken", "commit 3: broken", "abort 2: broken", "abort 3: broken", "checkpoint: broken")
+			wantAnswers(t, v.k, words+": broken", "prepare 4: broken", "commit 2: broken", "commit 3: broken", "abort 2: broken", "abort 3: broken", "checkpoint: broken")
 			v.check()
-			wantAnswers(t, v.s, "prepare 2: yes", "prepare 5: no", "commit 4: 4", "commit 5: done", "get 6 0 a: one", "prepare 6: readonly", "put 6 0 z x: done", "abort 6: done", "abort 4: done", "get 7 0 d: round 3", "ticks 16: done", "state 4: none", "state 3: prepared")
+			wantAnswers(t, v.k, "prepare 2: yes", "prepare 5: no", "commit 4: 4", "commit 5: done", "get 6 0 a: one", "prepare 6: readonly", "put 6 0 z x: done", "abort 6: done", "abort 4: done", "get 7 0 d: round 3", "ticks 16: done", "state 4: none", "state 3: prepared")
 			if v.d.calls != calls {
 				t.Fatalf("behind a failure the disk is called")
 			}
@@ -546,12 +396,12 @@ func TestP22NothingElseTurns(t *testing.T) {
 	v.abort(3)
 	for range 3 {
 		v.checkpoint()
-		wantAnswers(t, v.s, "state 2: prepared", "state 3: none", "state 4: working", "state 5: doomed", "get 4 "+strconv.Itoa(v.next(4))+" d: four")
+		wantAnswers(t, v.k, "state 2: prepared", "state 3: none", "state 4: working", "state 5: doomed", "get 4 "+strconv.Itoa(v.next(4))+" d: four")
 		v.m.txns[4].done++
 	}
-	v.reopen()
-	wantShard(t, v.s, "a=one c=see", 2)
-	wantAnswers(t, v.s, "commit 2: done")
+	reopen(v)
+	wantShard(t, v.k, "a=one c=see", 2)
+	wantAnswers(t, v.k, "commit 2: done")
 	wantShard(t, shardAgain(t, v.d), "a=one b=two c=see")
 }
 

@@ -143,6 +143,16 @@ func (m *shardModel) waiting() []uint64 {
 	return ids
 }
 
+func (m *shardModel) clone() *shardModel {
+	other := &shardModel{values: maps.Clone(m.values), txns: map[uint64]*modelTxn{}}
+	for id, t := range m.txns {
+		own := *t
+		own.reads, own.writes = maps.Clone(t.reads), maps.Clone(t.writes)
+		other.txns[id] = &own
+	}
+	return other
+}
+
 // durable: what a shard has of this that is opened later, if all is durable.
 func (m *shardModel) durable() *shardModel {
 	then := &shardModel{values: maps.Clone(m.values), txns: map[uint64]*modelTxn{}}

@@ -52,8 +52,8 @@ func wantShard(t *testing.T, s *shardcommit.Shard, values string, waiting ...uin
 	}
 }
 
-// asked calls a shard, by words ("put 1 0 a x"), and tells what it answered: what Get read ("-": nothing), the vote, the state, or the error by its number.
-func asked(s *shardcommit.Shard, words string) string {
+// askShard calls a shard, by words ("put 1 0 a x"), and tells what it answered: what Get read ("-": nothing), the vote, the state, or the error by its number.
+func askShard(s *shardcommit.Shard, words string) string {
 	w := append(strings.Split(words, " "), "", "", "", "")
 	txn, _ := strconv.ParseUint(w[1], 10, 64)
 	seq, _ := strconv.Atoi(w[2])
@@ -95,23 +95,7 @@ func asked(s *shardcommit.Shard, words string) string {
 	default:
 		return "no such call"
 	}
-	if e, ok := err.(api.Errno); ok {
-		return strconv.Itoa(int(e))
-	} else if err != nil {
-		return err.Error()
-	}
-	return answer
-}
-
-// wantAnswers asks one behind the other: "put 1 0 a x: done".
-func wantAnswers(t *testing.T, s *shardcommit.Shard, rows ...string) {
-	t.Helper()
-	for i, row := range rows {
-		words, want, _ := strings.Cut(row, ": ")
-		if got := asked(s, words); got != want {
-			t.Fatalf("row %d: %s: %s, want %s", i, words, got, want)
-		}
-	}
+	return orError(answer, err)
 }
 
 func TestP12EmptyShard(t *testing.T) {
@@ -187,7 +171,7 @@ func TestP13Errors(t *testing.T) {
 			{3, 4, "e", "5"}, {3, 4, "p", "5"}, // though another holds it
 		} {
 			words := fmt.Sprintf(call, c.txn, c.seq, c.key)
-			if got := asked(s, words); got != c.want {
+			if got := ask(s, words); got != c.want {
 				t.Errorf("%s: %s, want %s", words, got, c.want)
 			}
 		}
@@ -453,12 +437,7 @@ func TestP1RecordsThatNoShardLeft(t *testing.T) {
 		"a value, and more":                 {{Kind: 4, Payload: "\x01k\x01vx"}},
 	} {
 		d := newDisk()
-		l := logOver(t, d)
-		for _, r := range records {
-			if _, err := l.Append(r.Kind, r.Payload); err != nil {
-				t.Fatalf("Append = %v", err)
-			}
-		}
+		writeRecords(t, d, records)
 		if s, err := shardcommit.OpenShard(d); s != nil || err != api.ErrFrame {
 			t.Errorf("%s: OpenShard = %v, %v", name, s != nil, err)
 		}

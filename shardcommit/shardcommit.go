@@ -3,6 +3,7 @@ package shardcommit
 
 import (
 	"shardcommit/api"
+	"shardcommit/coordinator"
 	"shardcommit/journal"
 	"shardcommit/shard"
 	"shardcommit/wire"
@@ -32,44 +33,11 @@ type Shard = shard.Shard
 // OpenShard opens the shard of a disk (P12, P20).
 func OpenShard(d api.Disk) (*Shard, error) { return shard.Open(d) }
 
-// Coordinator is transactions that are decided.
-type Coordinator struct{}
+// Coordinator is transactions that are decided (P23 to P32).
+type Coordinator = coordinator.Coordinator
 
 // OpenCoordinator opens the coordinator of a disk (P23, P31).
-func OpenCoordinator(d api.Disk) (*Coordinator, error) { return nil, nil }
-
-// Begin: a transaction more (P24).
-func (c *Coordinator) Begin() (uint64, error) { return 0, nil }
-
-// Commit: votes are asked for (P25).
-func (c *Coordinator) Commit(txn uint64, shards []int) error { return nil }
-
-// Abort: it is aborted (P26).
-func (c *Coordinator) Abort(txn uint64) error { return nil }
-
-// Vote: of a shard (P27).
-func (c *Coordinator) Vote(txn uint64, shard int, vote int) error { return nil }
-
-// Done: a shard says that it is done (P28).
-func (c *Coordinator) Done(txn uint64, shard int) error { return nil }
-
-// Answer: what a shard is told that asks (P29).
-func (c *Coordinator) Answer(txn uint64) int { return 0 }
-
-// Tick: votes that do not come; what is to be sent again (P30).
-func (c *Coordinator) Tick() {}
-
-// Status: of a transaction (P24).
-func (c *Coordinator) Status(txn uint64) int { return 0 }
-
-// Results: what became of transactions, since the last call (P30).
-func (c *Coordinator) Results() []api.Result { return nil }
-
-// Out: what is to be sent, since the last call (P30).
-func (c *Coordinator) Out() []api.Due { return nil }
-
-// Checkpoint writes anew what is durable (P32).
-func (c *Coordinator) Checkpoint() error { return nil }
+func OpenCoordinator(d api.Disk) (*Coordinator, error) { return coordinator.Open(d) }
 
 // Node is the coordinator or a shard, and its messages.
 type Node struct{}

@@ -1,4 +1,5 @@
-package shard
+// Package order: maps gone through in the order of their keys.
+package order
 
 import (
 	"cmp"
@@ -7,8 +8,8 @@ import (
 	"slices"
 )
 
-// byKeys walks through what is in a map when the walk is begun, the lowest key first: what is told, or written, must not hang on the order that a map has.
-func byKeys[K cmp.Ordered, V any](m map[K]V) iter.Seq2[K, V] {
+// ByKeys walks through what is in a map when the walk is begun, the lowest key first: what is told, or written, must not hang on the order that a map has.
+func ByKeys[K cmp.Ordered, V any](m map[K]V) iter.Seq2[K, V] {
 	return func(yield func(key K, value V) bool) {
 		keys := slices.Sorted(maps.Keys(m))
 		// All values are taken ahead, since whoever walks may call what turns the map.
