@@ -4,6 +4,7 @@ import (
 	"encoding/binary"
 	"encoding/hex"
 	"hash/crc32"
+	"runtime/debug"
 	"strconv"
 	"strings"
 	"testing"
@@ -11,6 +12,12 @@ import (
 	"shardcommit/api"
 	"shardcommit/shardcommit"
 )
+
+// TestMain: many short lives leave much behind, of which little is alive at a time: so it is collected seldom.
+func TestMain(m *testing.M) {
+	debug.SetGCPercent(800)
+	m.Run()
+}
 
 // These write bytes by the library's means, without the project's, so that both must agree on what the document says.
 
@@ -54,13 +61,15 @@ func scribble(b []byte) {
 	}
 }
 
-// ask calls a shard or coordinator, by words, and tells what it answered, or the error.
+// ask calls a shard, coordinator or node, by words, and tells what it answered, or the error.
 func ask(keeper any, words string) string {
 	switch k := keeper.(type) {
 	case *shardcommit.Shard:
 		return askShard(k, words)
 	case *shardcommit.Coordinator:
 		return askCoordinator(k, words)
+	case *shardcommit.Node:
+		return askNode(k, words)
 	}
 	return "no such keeper"
 }

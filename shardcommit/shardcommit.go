@@ -5,6 +5,7 @@ import (
 	"shardcommit/api"
 	"shardcommit/coordinator"
 	"shardcommit/journal"
+	"shardcommit/node"
 	"shardcommit/shard"
 	"shardcommit/wire"
 )
@@ -39,26 +40,11 @@ type Coordinator = coordinator.Coordinator
 // OpenCoordinator opens the coordinator of a disk (P23, P31).
 func OpenCoordinator(d api.Disk) (*Coordinator, error) { return coordinator.Open(d) }
 
-// Node is the coordinator or a shard, and its messages.
-type Node struct{}
+// Node is the coordinator or a shard, and its messages (P33 to P36).
+type Node = node.Node
 
 // OpenNode opens a node: 0 the coordinator, 1 to 8 a shard (P33).
-func OpenNode(d api.Disk, id int) (*Node, error) { return nil, nil }
-
-// Coordinator: of node 0; else nil (P33).
-func (n *Node) Coordinator() *Coordinator { return nil }
-
-// Shard: of a node that is one; else nil (P33).
-func (n *Node) Shard() *Shard { return nil }
-
-// Receive: a message came (P34).
-func (n *Node) Receive(b []byte) error { return nil }
-
-// Tick: a tick has passed (P35).
-func (n *Node) Tick() {}
-
-// Send: messages that are to be sent now (P35).
-func (n *Node) Send() [][]byte { return nil }
+func OpenNode(d api.Disk, id int) (*Node, error) { return node.Open(d, id) }
 
 // Restart opens many nodes at the same time: of each disk the node of that place (P37).
-func Restart(disks []api.Disk) ([]*Node, []error) { return nil, nil }
+func Restart(disks []api.Disk) ([]*Node, []error) { return node.Restart(disks) }
